@@ -1,0 +1,1 @@
+"""A dance contest judged."""
