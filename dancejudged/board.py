@@ -1,6 +1,7 @@
 """What one contest keeps: its sizes, and the rows told by the judges."""
 
 from dancejudged.columns import dance_places
+from dancejudged.overall import couple_total, final_places
 
 NO_SUCH = -2
 ROW_MISSING = -11
@@ -21,7 +22,7 @@ def is_row(places, couples):
     return sorted(places) == list(range(1, couples + 1))
 
 
-# Each call is answered by a list, as a refusal stands alone while a dance has a number for each couple behind it.
+# Each call is answered by a list, as a refusal stands alone while places have a number for each couple behind the 0.
 class Board:
     def __init__(self):
         self.couples = 0
@@ -54,9 +55,28 @@ class Board:
             return [ROW_MISSING]
         return [0] + dance_places(rows, self.couples)
 
+    def total(self, couple):
+        if couple >= self.couples:
+            return [NO_SUCH]
+        if self.rows_missing() > 0:
+            return [ROW_MISSING]
+        return [couple_total(self.places_by_dance(), couple)]
+
+    def final(self):
+        if self.rows_missing() > 0:
+            return [ROW_MISSING]
+        return [0] + final_places(self.places_by_dance(), list(self.rows.values()), self.couples)
+
+    def missing(self):
+        return [self.rows_missing()]
+
     def rows_missing(self):
         return self.dances * self.judges - len(self.rows)
 
     def rows_of(self, dance):
         """The rows told of a dance, by the judges in their order."""
         return [self.rows[(dance, judge)] for judge in range(self.judges) if (dance, judge) in self.rows]
+
+    def places_by_dance(self):
+        """Of each dance the places of all couples, where no row is missing."""
+        return [dance_places(self.rows_of(dance), self.couples) for dance in range(self.dances)]

@@ -33,7 +33,7 @@ def middle_place(place, sharing):
 
 
 def couple_table(rows, couple, couples):
-    """The standings of one couple in the rows of a dance."""
+    """The standings of one couple in these rows, of one dance or of several."""
     return standings([row[couple] for row in rows], couples)
 
 

@@ -5,6 +5,9 @@ from dancejudged.board import Board
 START = 0
 MARK = 1
 DANCE = 2
+TOTAL = 3
+FINAL = 4
+MISSING = 5
 
 
 def call_size(calls, at):
@@ -13,8 +16,10 @@ def call_size(calls, at):
         return 4
     if calls[at] == MARK:
         return 4 + calls[at + 3]
-    if calls[at] == DANCE:
+    if calls[at] == DANCE or calls[at] == TOTAL:
         return 2
+    if calls[at] == FINAL or calls[at] == MISSING:
+        return 1
     raise ValueError("there is no such call")
 
 
@@ -24,7 +29,13 @@ def answer(board, call):
         return board.start(call[1], call[2], call[3])
     if call[0] == MARK:
         return board.mark(call[1], call[2], call[4:])
-    return board.dance(call[1])
+    if call[0] == DANCE:
+        return board.dance(call[1])
+    if call[0] == TOTAL:
+        return board.total(call[1])
+    if call[0] == FINAL:
+        return board.final()
+    return board.missing()
 
 
 def answers(calls):

@@ -5,37 +5,9 @@ import random
 import unittest
 
 from calling import ask, dance, mark, marks, places_of, start
+from words import dance_by_words
 
 BIGGEST = 4294967295
-
-
-def before(ours, theirs, column, couples):
-    """Of two couples' marks, 1 if the first is before from the column on, -1 if the second is, 0 if level."""
-    for limit in range(column, couples + 1):
-        mine = [place for place in ours if place <= limit]
-        others = [place for place in theirs if place <= limit]
-        if len(mine) != len(others):
-            return 1 if len(mine) > len(others) else -1
-        if sum(mine) != sum(others):
-            return 1 if sum(mine) < sum(others) else -1
-    return 0
-
-
-def told_by_words(rows):
-    """A dance as the document's words go, pair by pair."""
-    couples = len(rows[0])
-    marks_of = list(zip(*rows))
-    free_places = list(range(1, couples + 1))
-    given = {}
-    for column in range(1, couples + 1):
-        group = {c for c in range(couples) if c not in given and sum(m <= column for m in marks_of[c]) > len(rows) / 2}
-        while group:
-            best = {c for c in group if not any(before(marks_of[o], marks_of[c], column, couples) > 0 for o in group)}
-            taken = [free_places.pop(0) for couple in best]
-            for couple in best:
-                given[couple] = taken[0] + taken[-1]
-            group -= best
-    return [0] + [given[couple] for couple in range(couples)]
 
 
 class Refusals(unittest.TestCase):
@@ -156,7 +128,7 @@ class Places(unittest.TestCase):
 class ByTheWords(unittest.TestCase):
     def test_every_contest_of_three_couples_and_three_judges(self):
         for rows in itertools.product(itertools.permutations((1, 2, 3)), repeat=3):
-            self.assertEqual(places_of(rows), told_by_words(rows), rows)
+            self.assertEqual(places_of(rows), [0] + dance_by_words(rows), rows)
 
     def some_contests(self):
         source = random.Random(20)
@@ -167,7 +139,7 @@ class ByTheWords(unittest.TestCase):
 
     def test_as_the_words_go(self):
         for rows in self.some_contests():
-            self.assertEqual(places_of(rows), told_by_words(rows), rows)
+            self.assertEqual(places_of(rows), [0] + dance_by_words(rows), rows)
 
     def test_all_places_together_are_those_of_one_each(self):
         for rows in self.some_contests():
